@@ -1,0 +1,1 @@
+"""axiomparts: modules of axioms."""
