@@ -21,10 +21,11 @@ class Concepts:
     number it begins with, its name or role, and the places of the rows of its
     inner concepts, which stand ahead of it. What isn't there is 0. Equal
     concepts share one row. The tops are the places of the concepts that were
-    given, in their order.
+    given, in their order; the numbers are what they were read from.
     """
 
-    def __init__(self, rows, tops):
+    def __init__(self, numbers, rows, tops):
+        self.numbers = numbers
         self.rows = rows
         self.tops = tops
 
@@ -99,4 +100,14 @@ def read_concepts(numbers, wanted):
             places[row] = len(rows)
             rows.append(row)
         waiting.append(places[row])
-    return Concepts(rows, list(reversed(waiting)))
+    return Concepts(numbers, rows, list(reversed(waiting)))
+
+
+def read_together(parts):
+    """The concepts of all parts as if read together, in their order."""
+    numbers = []
+    wanted = 0
+    for part in parts:
+        numbers.extend(part.numbers)
+        wanted = wanted + len(part.tops)
+    return read_concepts(numbers, wanted)

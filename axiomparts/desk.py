@@ -1,7 +1,8 @@
 """The desk: the axioms of one request, and the answers to its calls."""
 
-from axiomparts.concepts import read_concepts
-from axiomparts.models import is_local
+from axiomparts.concepts import read_concepts, read_together
+from axiomparts.models import is_local, is_subsumed
+from axiomparts.modules import module_for
 from axiomparts.reader import Reader
 
 BEGINS = 0
@@ -9,6 +10,9 @@ LINE = 1
 DROP = 2
 WORDS = 3
 QUIET = 4
+PART = 5
+UNDER = 6
+BY = 7
 
 MALFORMED = -1
 NO_SUCH_AXIOM = -2
@@ -16,6 +20,8 @@ TOO_MUCH = -7
 
 MOST_AXIOMS = 8
 MOST_ATOMS = 4
+MOST_ATOMS_UNDER = 6
+NAMES = 4
 NAME_SETS = 16
 ROLE_SETS = 4
 
@@ -25,6 +31,10 @@ class Desk:
 
     def __init__(self):
         self.axioms = []
+
+    def module_of(self, concepts):
+        """The module for the signature of these concepts."""
+        return module_for(self.axioms, concepts.used_names(), concepts.used_roles())
 
     def begins(self):
         """Removes all axioms."""
@@ -63,6 +73,38 @@ class Desk:
             return [MALFORMED]
         return [1 if is_local(self.axioms[index], names, roles) else 0]
 
+    def part(self, names, roles):
+        """Gives the module for a signature: how many axioms, its signature, their indexes."""
+        if names >= NAME_SETS or roles >= ROLE_SETS:
+            return [MALFORMED]
+        module = module_for(self.axioms, names, roles)
+        return [len(module.indexes), module.names, module.roles] + module.indexes
+
+    def under(self, concepts):
+        """Tells whether the first concept is subsumed by the second one with all axioms."""
+        asked = read_concepts(concepts, 2)
+        if asked is None:
+            return [MALFORMED]
+        needed = [self.axioms[index] for index in self.module_of(asked).indexes]
+        together = read_together(needed + [asked])
+        if together.atom_count() > MOST_ATOMS_UNDER:
+            return [TOO_MUCH]
+        return [1 if is_subsumed(together) else 0]
+
+    def by(self, concepts):
+        """Gives the axioms of the module for the signature of both concepts."""
+        asked = read_concepts(concepts, 2)
+        if asked is None:
+            return [MALFORMED]
+        return self.module_of(asked).listed()
+
+    def parts(self):
+        """Gives for each name the axioms of the module for it alone."""
+        result = [NAMES]
+        for name in range(NAMES):
+            result.extend(module_for(self.axioms, 1 << name, 0).listed())
+        return result
+
 
 def answer_quiet(desk, reader):
     """Takes the arguments of a call of quiet, and gives its result."""
@@ -70,6 +112,13 @@ def answer_quiet(desk, reader):
     names = reader.take_number()
     roles = reader.take_number()
     return desk.quiet(index, names, roles)
+
+
+def answer_part(desk, reader):
+    """Takes the arguments of a call of part, and gives its result."""
+    names = reader.take_number()
+    roles = reader.take_number()
+    return desk.part(names, roles)
 
 
 def answer_next(desk, reader):
@@ -85,7 +134,14 @@ def answer_next(desk, reader):
         return desk.words(reader.take_list())
     if call == QUIET:
         return answer_quiet(desk, reader)
-    raise NotImplementedError(f"no call {call}")
+    if call == PART:
+        return answer_part(desk, reader)
+    if call == UNDER:
+        return desk.under(reader.take_list())
+    if call == BY:
+        return desk.by(reader.take_list())
+    # No other call than parts is left.
+    return desk.parts()
 
 
 def answers(calls):

@@ -34,6 +34,22 @@ def quiet(index, names, roles):
     return [4, index, names, roles]
 
 
+def part(names, roles):
+    return [5, names, roles]
+
+
+def under(*concepts):
+    return [6, len(concepts), *concepts]
+
+
+def by(*concepts):
+    return [7, len(concepts), *concepts]
+
+
+def parts():
+    return [8]
+
+
 def lines(axioms):
     return [line(*axiom) for axiom in axioms]
 
@@ -59,6 +75,11 @@ def ask(*calls):
 def first_numbers(*calls):
     """The number that each call is answered with first."""
     return [result[0] for result in ask(*calls)]
+
+
+def with_axioms(axioms, *calls):
+    """The result of each call behind these axioms."""
+    return ask(*lines(axioms), *calls)[len(axioms):]
 
 
 def quiet_once(axiom, names, roles):

@@ -19,7 +19,7 @@ NODES = set("""
 
 OWN_OF_PYTHON = set("""
     len range enumerate zip min max sum abs sorted reversed int str bool list tuple dict isinstance any all divmod
-    Exception ValueError KeyError IndexError NotImplementedError True False None
+    Exception ValueError KeyError IndexError True False None
 """.split())
 
 METHODS = set("""
@@ -49,6 +49,16 @@ def bound_names(tree):
             found.add(node.name)
         elif isinstance(node, ast.Name) and isinstance(node.ctx, ast.Store):
             found.add(node.id)
+    return found
+
+
+def own_methods():
+    """The names of all methods of the package's classes."""
+    found = set()
+    for path in files():
+        for node in ast.walk(ast.parse(path.read_text())):
+            if isinstance(node, ast.ClassDef):
+                found |= {part.name for part in node.body if isinstance(part, ast.FunctionDef)}
     return found
 
 
@@ -94,12 +104,19 @@ class Form(unittest.TestCase):
                     if isinstance(node, ast.Constant):
                         self.assertIsInstance(node.value, (int, str, bool, None.__class__))
 
-    def test_only_known_names(self):
-        own_methods = set()
+    def test_no_call_is_left_out(self):
+        for path in files():
+            self.assertNotIn("NotImplementedError", path.read_text(), path.name)
+
+    def test_no_name_is_a_method_and_a_value(self):
+        values = set()
         for path in files():
             for node in ast.walk(ast.parse(path.read_text())):
-                if isinstance(node, ast.ClassDef):
-                    own_methods |= {part.name for part in node.body if isinstance(part, ast.FunctionDef)}
+                if isinstance(node, ast.Attribute) and isinstance(node.ctx, ast.Store):
+                    values.add(node.attr)
+        self.assertEqual(values & (own_methods() | METHODS), set())
+
+    def test_only_known_names(self):
         for path in files():
             tree = ast.parse(path.read_text())
             bound = bound_names(tree)
@@ -109,7 +126,7 @@ class Form(unittest.TestCase):
                     self.assertIn(node.id, bound | OWN_OF_PYTHON, path.name)
                     self.assertRegex(node.id, r"^[A-Za-z]\w*$")
                 if isinstance(node, ast.Call) and isinstance(node.func, ast.Attribute):
-                    self.assertIn(node.func.attr, METHODS | own_methods, path.name)
+                    self.assertIn(node.func.attr, METHODS | own_methods(), path.name)
 
 
 if __name__ == "__main__":
